@@ -1,0 +1,1 @@
+"""Manysides: a database of arrays with many dimensions."""

@@ -62,6 +62,21 @@ class OctetReader:
             return number // 2
         return -(number // 2) - 1
 
+    def next_four(self):
+        """Returns the next number that is written in four octets, the most significant one first."""
+        number = 0
+        for octet in self.next_octets(4):
+            number = number * 256 + octet
+        return number
+
+    def next_four_in(self, least, greatest):
+        """Returns the next number in four octets. Raises Damaged at the first one if it is out of bounds."""
+        first = self.at
+        number = self.next_four()
+        if not least <= number <= greatest:
+            raise Damaged(first)
+        return number
+
     def next_bits(self, count):
         """Returns the list of the next bits, True and False. Raises Damaged if one that fills up is 1."""
         first = self.at

@@ -5,6 +5,7 @@ import unittest
 from manysides import errors
 from manysides.arrays import Array
 from manysides.errors import ManysidesError
+from manysides.roots import Root
 from manysides.shapes import Shape
 from tests.helpers import LINE
 
@@ -47,6 +48,14 @@ class EqualityTest(unittest.TestCase):
         for other in others + [LINE]:
             self.assertFalse(array == other)
             self.assertTrue(array != other)
+
+    def test_roots(self):
+        root = Root(2, 0, ((1, (("a", LINE, ()),)),))
+        self.assertTrue(root == Root(2, 0, ((1, (("a", Shape(LINE.dims, LINE.attrs), ()),)),)))
+        for other in (None, True, 2, "", (), [], (2, 0, root.versions), {}, object(), LINE, Array(LINE, {})):
+            self.assertFalse(root == other)
+            self.assertTrue(root != other)
+            self.assertFalse(other == root)
 
     def test_a_class_with_the_same_attributes_is_another_class(self):
         class Other:

@@ -26,6 +26,30 @@ INTERFACE = {
     "sieves": {"span_of": ["expression", "shape", "box", "marks"], "paper_of": ["expression", "shape", "box", "marks"],
                "shows": ["expression", "shape", "box", "marks", "paper"], "allows": ["span", "value"],
                "can_pass": ["paper"]},
+    "queries": {"parts_of": ["query"], "with_parts": ["query", "parts"], "operators": ["query"],
+                "shape_of": ["query", "shapes"]},
+    "teller": {"tell": ["query", "arrays"], "aggregate": ["word", "values"]},
+    "rules": {"applied": ["name", "query", "shapes"], "rewritten": ["query", "shapes"], "put_in": ["e", "definitions"],
+              "names_in": ["e"]},
+    "sources": {"MemorySource": ["arrays"]},
+    "regions": {"whole_region": ["shape"]},
+    "parts": {"part": ["query", "region", "source"], "run": ["query", "source"], "answer_chunks": ["query", "source"],
+              "reads_of": ["query", "region", "source"], "plan": ["query", "source"]},
+    "reach": {"reach": ["query", "shapes", "name", "region"], "renewed": ["query", "answer", "source", "name", "region"]},
+    "origins": {"origins": ["query", "arrays", "region"], "cells_in": ["cells", "region"]},
+    "pyramids": {"totals_of": ["shape", "cells"], "together": ["first", "second"], "Pyramid": ["array"]},
+    "disk": {"Disk": []},
+    "roots": {"Root": ["upcoming", "data", "versions"], "sum_of": ["octets"], "encode_root": ["root"],
+              "decode_root": ["octets"]},
+}
+METHODS = {
+    ("sources", "MemorySource"): {"shapes": [], "chunks": ["name"], "marks": ["name", "chunk"], "read": ["name", "chunk"],
+                                  "reads": [], "forget_reads": []},
+    ("pyramids", "Pyramid"): {"levels": [], "box": ["level", "index"], "put": ["place", "values"], "take": ["place"],
+                              "cover": ["region"], "loose": ["region"], "ask": ["region"], "cells": []},
+    ("disk", "Disk"): {"names": [], "size": ["name"], "read": ["name", "start", "count"], "append": ["name", "octets"],
+                       "sync": ["name"], "rename": ["old", "new"], "remove": ["name"], "sync_names": [],
+                       "allow": ["count"], "done": [], "lose": ["choices"]},
 }
 
 
@@ -37,3 +61,10 @@ class InterfaceTest(unittest.TestCase):
                 thing = getattr(module, name)
                 self.assertEqual(thing.__module__, f"manysides.{file}", name)
                 self.assertEqual(list(inspect.signature(thing).parameters), arguments, name)
+
+    def test_methods_stand_in_the_class_itself(self):
+        for (file, name), methods in METHODS.items():
+            thing = getattr(importlib.import_module(f"manysides.{file}"), name)
+            for method, arguments in methods.items():
+                self.assertIn(method, vars(thing), name)
+                self.assertEqual(list(inspect.signature(getattr(thing, method)).parameters), ["self"] + arguments, method)

@@ -233,6 +233,14 @@ class AnswersTest(Case):
             ((0, 0), {(3, 1): (4,)}), ((1, 0), {(9, 1): (2,)}), ((1, 1), {(9, 2): (1,)})])
         self.assert_error(InvalidQuery, 0, answer_chunks, ("keep", M, V), source)
 
+    def test_deep_queries(self):
+        query = M
+        for _ in range(1500):
+            query = ("box", query, (("x", 1, 30),))
+        self.assertEqual(run(query, self.source).cells, tell(query, FULL).cells)
+        self.assert_same(self.source.reads(), [("m", (index,)) for index in range(1, 10)])
+        self.assertEqual(plan(query, self.source), ("box", M, (("x", 1, 30),)))
+
     def test_many_chunks(self):
         array = Array(Shape((("x", 1, 20000, 1),), (("v", "int"),)), {(7,): (1,), (19999,): (2,)})
         found = answer_chunks(("keep", M, gt("v", 1)), MemorySource({"m": array}))

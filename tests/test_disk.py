@@ -151,7 +151,7 @@ class LoseTest(Case):
             self.assert_same(held(disk.lose([choice])), wanted[choice % 6])
 
     def test_a_choice_is_used_for_each_name_and_for_each_one_of_which_some_remain(self):
-        disk = disk_with(("a", [1]), ("b", [2]), ("c", [3]))
+        disk = disk_with(("c", [3]), ("b", [2]), ("a", [1]))
         for name in ("c", "a"):
             disk.append(name, [50, 60])
         for choices, wanted in (([0, 1, 1, 0, 2, 1], ([1, 51], [2], [3, 50, 61])), ([0, 0, 0, 1], ([1], [2], [3, 50])),

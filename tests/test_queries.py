@@ -222,6 +222,8 @@ class OneOperatorTest(ShapeCase):
     def test_turned(self):
         self.assert_shape(("turned", M, ("y", "x")), (DIMS[1], DIMS[0]), ATTRS)
         self.assert_shape(("turned", M, ("x", "y")), DIMS, ATTRS)
+        for names in (("x", "y"), ("y", "x")):
+            self.assert_shape(("turned", ("turned", M, ("y", "x")), names), [DIMS, DIMS[::-1]][names[0] == "y"], ATTRS)
         for names in ((), ("x",), ("x", "x"), ("x", "y", "x"), ("x", "z"), ("x", "y", "v")):
             self.assert_none(("turned", M, names))
 

@@ -137,7 +137,8 @@ class DecodeTest(Case):
         self.assert_error(Truncated, 5, decode_root, [77, 83, 0, 0, 0])
 
     def test_numbers_of_versions(self):
-        for numbers, index in (((0,), 0), ((9,), 0), ((TOP,), 0), ((3, 3), 1), ((3, 2), 1), ((1, 2, 0), 2), ((1, 8, 9), 2)):
+        for numbers, index in (((0,), 0), ((9,), 0), ((TOP,), 0), ((3, 3), 1), ((3, 2), 1), ((1, 2, 0), 2), ((1, 8, 9), 2), ((1, 5, 3), 2),
+                               ((2, 6, 7, 7), 3)):
             octets = body(*[version(number) for number in numbers])
             self.assert_wrong(14 + 8 * index, octets)
             self.assert_wrong(14 + 8 * index, octets[:18 + 8 * index], False)
@@ -159,6 +160,10 @@ class DecodeTest(Case):
             self.assert_wrong(first, octets[:first + 1 + len(text)], False)
         for text in ("ba", "c", "b_"):
             self.assertEqual(len(decode_root(summed(body(version(3, array("b"), array(text))))).versions[0][1]), 2)
+
+    def test_names_ascend_from_each_one_to_the_next(self):
+        octets = body(version(3, array("b"), array("f"), array("d")))
+        self.assert_wrong(len(octets) - len(array("d")), octets)
 
     def test_names_start_again_in_each_version(self):
         root = decode_root(summed(body(version(3, array("b")), version(4, array("a")))))
@@ -198,7 +203,8 @@ class DecodeTest(Case):
         plane = shape([dim(), dim("y", -3, 4, 3)])
         first = 24 + len(plane) + 4
         for rows, index in ((((2, 0, 1, 1),), 0), (((0, 3, 1, 1),), 0), (((TOP, TOP, 1, 1),), 0), (((1, 2, 1, 1), (1, 2, 1, 1)), 1),
-                            (((1, 0, 1, 1), (0, 2, 1, 1)), 1), (((0, 1, 1, 1), (0, 0, 1, 1)), 1), (((0, 1, 0, 0), (0, 3, 0, 0)), 1)):
+                            (((1, 0, 1, 1), (0, 2, 1, 1)), 1), (((0, 1, 1, 1), (0, 0, 1, 1)), 1), (((0, 1, 0, 0), (0, 3, 0, 0)), 1),
+                            (((0, 0, 1, 1), (1, 1, 1, 1), (0, 2, 1, 1)), 2), (((0, 0, 1, 1), (0, 2, 1, 1), (0, 1, 1, 1)), 2)):
             octets = body(version(3, array("a", plane, chunks(*rows))))
             self.assert_wrong(first + 16 * index, octets)
             self.assert_wrong(first + 16 * index, octets[:first + 16 * index + 8], False)

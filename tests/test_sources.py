@@ -30,6 +30,11 @@ class MemorySourceTest(Case):
         told.chunks("m").clear()
         self.assert_same(told.chunks("m"), [(0, 0), (1, 1), (2, 2)])
 
+    def test_chunks_are_ascending(self):
+        cells = {(0, 3): (1, True), (1, -1): (2, True), (1, 1): (3, True), (9, 0): (4, True), (8, 2): (5, True)}
+        told = MemorySource({"m": Array(SHAPE, cells)})
+        self.assert_same(told.chunks("m"), [(0, 0), (0, 1), (0, 2), (2, 0), (2, 1)])
+
     def test_marks(self):
         told = source()
         self.assert_same(told.marks("m", (0, 0)), (2, ((0, -3, 2), (1, False, False))))

@@ -147,6 +147,7 @@ class OperatorsTest(TellCase):
         self.assert_cells(("ranked", P, "r"), {(0, -1): (1, 0), (0, 2): (2, 1), (1, 0): (None, 2), (3, 0): (4, 3),
                                                (3, 1): (-8, 4)})
         self.assert_cells(("box", ("ranked", Z, "r"), (("z", 2, 3),)), {(3,): (9, 1)})
+        self.assert_cells(("only", ("ranked", M, "r"), ("r",)), {(2,): (0,), (3,): (1,), (7,): (2,), (9,): (3,)})
 
 
 class SortedTest(TellCase):

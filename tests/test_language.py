@@ -2,6 +2,7 @@
 
 import ast
 import builtins
+import functools
 import pathlib
 import re
 import unittest
@@ -22,6 +23,7 @@ DOUBLE_UNDERSCORE = {"__init__", "__class__", "__name__"}
 BARRED = (ast.Global, ast.AsyncFunctionDef, ast.Await, ast.Import, ast.Div)
 
 
+@functools.cache
 def trees():
     """Returns the list of pairs of the name of a file and its tree."""
     return [(path.name, ast.parse(path.read_text(encoding="ascii"))) for path in FILES]
@@ -32,6 +34,7 @@ def nodes(kind):
     return [(name, node) for name, tree in trees() for node in ast.walk(tree) if isinstance(node, kind)]
 
 
+@functools.cache
 def own_methods():
     """Returns the set of the names of the methods of the package."""
     return {inner.name for _, node in nodes(ast.ClassDef) for inner in node.body if isinstance(inner, ast.FunctionDef)}
@@ -77,6 +80,8 @@ class LanguageTest(unittest.TestCase):
                     known.update([alias.name for alias in node.names])
                 elif isinstance(node, ast.Name) and isinstance(node.ctx, ast.Store):
                     known.add(node.id)
+                elif isinstance(node, ast.arg):
+                    known.add(node.arg)
             for node in ast.walk(tree):
                 if isinstance(node, ast.Call) and isinstance(node.func, ast.Name):
                     self.assertIn(node.func.id, known, name)

@@ -41,6 +41,19 @@ INTERFACE = {
     "disk": {"Disk": []},
     "roots": {"Root": ["upcoming", "data", "versions"], "sum_of": ["octets"], "encode_root": ["root"],
               "decode_root": ["octets"]},
+    "store": {"Store": ["disk"]},
+    "vacuum": {"forget": ["store", "versions"], "vacuum": ["store"], "used": ["store"], "damage": ["store"]},
+    "readers": {"Reader": ["store", "version", "room"]},
+    "tokens": {"split_words": ["text"]},
+    "parsing": {"parse_query": ["text"], "parse_expression": ["text"]},
+    "printing": {"print_query": ["query"], "print_expression": ["expression"]},
+    "stored": {"encode_marks": ["shape", "marks"], "decode_marks": ["shape", "octets"], "stored_array": ["array"],
+               "array_names": ["store", "version"], "read_array": ["store", "version", "name"],
+               "StoreSource": ["store", "version", "room"]},
+    "database": {"Database": ["disk", "room"]},
+    "workers": {"owner_of": ["key", "count"], "Worker": []},
+    "jobs": {"Job": ["number", "version", "query", "source", "count"]},
+    "clusters": {"Cluster": ["source", "version", "count"]},
 }
 METHODS = {
     ("sources", "MemorySource"): {"shapes": [], "chunks": ["name"], "marks": ["name", "chunk"], "read": ["name", "chunk"],
@@ -50,6 +63,17 @@ METHODS = {
     ("disk", "Disk"): {"names": [], "size": ["name"], "read": ["name", "start", "count"], "append": ["name", "octets"],
                        "sync": ["name"], "rename": ["old", "new"], "remove": ["name"], "sync_names": [],
                        "allow": ["count"], "done": [], "lose": ["choices"]},
+    ("store", "Store"): {"versions": [], "latest": [], "arrays": ["version"], "shape": ["version", "name"],
+                         "chunks": ["version", "name"], "chunk": ["version", "name", "chunk"], "put": ["arrays"], "root": []},
+    ("readers", "Reader"): {"chunk": ["name", "chunk"], "hits": [], "reads": [], "kept": []},
+    ("stored", "StoreSource"): {"shapes": [], "chunks": ["name"], "marks": ["name", "chunk"], "read": ["name", "chunk"], "reads": []},
+    ("database", "Database"): {"begin": [], "sessions": [], "latest": [], "names": ["session"], "shape": ["session", "name"],
+                               "ask": ["session", "query"], "ask_text": ["session", "text"], "create": ["session", "name", "shape"],
+                               "drop": ["session", "name"], "put": ["session", "name", "cells"], "take": ["session", "name", "places"],
+                               "keep": ["session", "name", "query"], "commit": ["session"], "abort": ["session"], "tidy": []},
+    ("workers", "Worker"): {"receive": ["message"], "fall": [], "held": []},
+    ("jobs", "Job"): {"sends": [], "receive": ["reply"], "is_done": [], "answer": [], "needs": []},
+    ("clusters", "Cluster"): {"move": ["move"], "settle": [], "on_way": ["w"], "on_way_back": ["w"]},
 }
 
 

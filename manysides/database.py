@@ -14,16 +14,17 @@ from manysides.vacuum import forget, vacuum
 class Commit:
     """What a commit has changed: a version was made, arrays were changed, and perhaps the list of names."""
 
-    def __init__(self, version, names, has_changed_names):
+    def __init__(self, version, changed, has_changed_names):
+        """The names of the changed arrays are told as a list."""
         self.version = version
-        self.names = names
+        self.changed = changed
         self.has_changed_names = has_changed_names
 
     def clashes_with(self, session):
         """Returns True if a Session has touched what this commit has changed, otherwise False."""
         if self.has_changed_names and session.has_touched_names:
             return True
-        return any([name in session.touched for name in self.names])
+        return any([name in session.touched for name in self.changed])
 
 
 class Database:

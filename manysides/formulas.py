@@ -36,7 +36,8 @@ class Begun:
         if self.word == "":
             return last
         told = self.parts + [last]
-        return ((self.word, *[part for part, depth in told]), 1 + max([depth for part, depth in told]))
+        expressions = [expression for expression, depth in told]
+        return ((self.word, *expressions), 1 + max([depth for expression, depth in told]))
 
 
 def begins_expression(reader):
@@ -46,7 +47,7 @@ def begins_expression(reader):
 
 def next_expression(reader):
     """Returns the expression that comes next among the words of a reader. Raises InvalidWords."""
-    first = reader.place()
+    first = reader.next_place()
     # What was begun, from the outside to the inside. No recursion: words may be nested as often as there are words.
     waiting = []
     found = first_part(reader, waiting)

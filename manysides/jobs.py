@@ -28,18 +28,19 @@ class Job:
         engine = Engine(self._plan, source)
         self._scanned = sorted(engine.stock)
         self._needs = [needs_in(engine, region) for region in self._regions]
-        # The states of the chunks that are needed, and the octets of those that are known.
-        self._states = {need: WANTED for need in sorted({need for needs in self._needs for need in needs})}
+        chunks = sorted({chunk for needs in self._needs for chunk in needs})
+        # The states of the chunks that are needed, tuples (name, chunk), and the octets of those that are known.
+        self._states = {need: WANTED for need in chunks}
         self._octets = {}
         # The cells of the parts that are there, by the numbers of the regions.
-        self._parts = {}
+        self._cells_of_parts = {}
 
     def sends(self):
         """Returns the list of what is to be sent now, pairs of the number of a worker and a message."""
         found = [self._message_for(name, chunk) for name, chunk in self._states
                  if self._states[(name, chunk)] != KNOWN]
         for index, region in enumerate(self._regions):
-            if index not in self._parts and all([need in self._octets for need in self._needs[index]]):
+            if index not in self._cells_of_parts and all([need in self._octets for need in self._needs[index]]):
                 found.append(self._work_for(index, region))
         return found
 
@@ -47,18 +48,18 @@ class Job:
         """Takes a reply; it may come late or twice, and then it is ignored."""
         word, label, *facts = reply
         if label[1] == "part":
-            if label[2] < len(self._regions) and label[2] not in self._parts:
-                self._parts[label[2]] = facts[0]
+            if label[2] < len(self._regions) and label[2] not in self._cells_of_parts:
+                self._cells_of_parts[label[2]] = facts[0]
         elif label[2:] in self._states:
             self._learn(word, label[2:], facts)
 
     def is_done(self):
         """Returns True if all regions are done, otherwise False."""
-        return len(self._parts) == len(self._regions)
+        return len(self._cells_of_parts) == len(self._regions)
 
     def answer(self):
         """Returns the answer of a job that is done, an Array."""
-        return Array(self._shape, {place: values for cells in self._parts.values() for place, values in cells})
+        return Array(self._shape, {place: values for cells in self._cells_of_parts.values() for place, values in cells})
 
     def needs(self):
         """Returns the list of the needs of the regions: ascending lists of tuples (name, chunk)."""

@@ -14,7 +14,7 @@ def parse_expression(text):
     reader = WordReader(text)
     expression = next_expression(reader)
     if not reader.is_at_end():
-        raise InvalidWords(reader.place())
+        raise InvalidWords(reader.next_place())
     return expression
 
 
@@ -31,7 +31,7 @@ def parse_query(text):
         elif waiting:
             found = behind_query(reader, waiting, found)
         else:
-            raise InvalidWords(reader.place())
+            raise InvalidWords(reader.next_place())
     return found
 
 
@@ -59,7 +59,7 @@ def behind_query(reader, waiting, found):
     if word != "match":
         return (word, *firsts, found)
     reader.need("on")
-    pairs = listed(reader, reader.is_name(), name_and_name)
+    pairs = named_items(reader, name_and_name)
     return (word, *firsts, found, pairs)
 
 
@@ -79,6 +79,11 @@ def listed(reader, has_items, item):
     while reader.passes(","):
         found.append(item(reader))
     return tuple(found)
+
+
+def named_items(reader, item):
+    """Returns the tuple of the items of a list in which each one begins with a NAME."""
+    return listed(reader, reader.is_name(), item)
 
 
 def name_item(reader):
@@ -169,17 +174,17 @@ def aggregate_item(reader):
 def aggregates_behind(reader, facts):
     """Returns the tuple of some facts and of the aggregates that follow them behind a ":"."""
     reader.need(":")
-    return (facts, listed(reader, reader.is_name(), aggregate_item))
+    return (facts, named_items(reader, aggregate_item))
 
 
 def box_facts(reader):
     """Returns the facts of the step "box". The functions below do the same for the other steps."""
-    return (listed(reader, reader.is_name(), range_item),)
+    return (named_items(reader, range_item),)
 
 
 def shift_facts(reader):
     """Returns the facts of "shift"."""
-    return (listed(reader, reader.is_name(), number_item),)
+    return (named_items(reader, number_item),)
 
 
 def keep_facts(reader):
@@ -189,37 +194,37 @@ def keep_facts(reader):
 
 def with_facts(reader):
     """Returns the facts of "with"."""
-    return (listed(reader, reader.is_name(), definition_item),)
+    return (named_items(reader, definition_item),)
 
 
 def names_facts(reader):
     """Returns the facts of "only" and "turned"."""
-    return (listed(reader, reader.is_name(), name_item),)
+    return (named_items(reader, name_item),)
 
 
 def named_facts(reader):
     """Returns the facts of "named"."""
-    return (listed(reader, reader.is_name(), renaming_item),)
+    return (named_items(reader, renaming_item),)
 
 
 def group_facts(reader):
     """Returns the facts of "group"."""
-    return aggregates_behind(reader, listed(reader, reader.is_name(), name_item))
+    return aggregates_behind(reader, named_items(reader, name_item))
 
 
 def window_facts(reader):
     """Returns the facts of "window"."""
-    return aggregates_behind(reader, listed(reader, reader.is_name(), span_item))
+    return aggregates_behind(reader, named_items(reader, span_item))
 
 
 def regrid_facts(reader):
     """Returns the facts of "regrid"."""
-    return aggregates_behind(reader, listed(reader, reader.is_name(), number_item))
+    return aggregates_behind(reader, named_items(reader, number_item))
 
 
 def reform_facts(reader):
     """Returns the facts of "reform"."""
-    return aggregates_behind(reader, listed(reader, reader.is_name(), dim_item))
+    return aggregates_behind(reader, named_items(reader, dim_item))
 
 
 def filled_facts(reader):

@@ -15,7 +15,7 @@ class WordReader:
         self._end = len(text)
         self._at = 0
 
-    def place(self):
+    def next_place(self):
         """Returns the place of the next word, or the length of the text if there is none."""
         return self._end if self.is_at_end() else self._words[self._at][0]
 
@@ -51,24 +51,24 @@ class WordReader:
     def need(self, word):
         """Goes on behind the next word. Raises InvalidWords if it is not a told sign or reserved name."""
         if not self.passes(word):
-            raise InvalidWords(self.place())
+            raise InvalidWords(self.next_place())
 
     def need_one_of(self, words):
         """Returns the next word, and goes on. Raises InvalidWords if it is none of some signs and names."""
         if self.fixed() not in words:
-            raise InvalidWords(self.place())
+            raise InvalidWords(self.next_place())
         return self.take()
 
     def need_kind(self, kind):
         """Returns the next word, and goes on behind it. Raises InvalidWords if it has another kind."""
         if self.kind() != kind:
-            raise InvalidWords(self.place())
+            raise InvalidWords(self.next_place())
         return self.take()
 
     def need_name(self):
         """Returns the name that a NAME stands for, and goes on behind it."""
         if not self.is_name():
-            raise InvalidWords(self.place())
+            raise InvalidWords(self.next_place())
         return self.take()
 
     def need_int(self):
@@ -79,7 +79,7 @@ class WordReader:
     def need_small_int(self):
         """Returns the value of an INT. Raises InvalidWords at its number if it is too great."""
         sign = -1 if self.passes("-") else 1
-        first = self.place()
+        first = self.next_place()
         number = self.need_kind("number")
         if number >= SMALL_BOUND:
             raise InvalidWords(first)

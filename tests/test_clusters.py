@@ -164,6 +164,7 @@ class MoveTest(Case):
         there = [c.on_way(w) for w in (0, 1)]
         self.assert_same([c.move(("fall", 1)), [worker.held() for worker in c.workers]], [True, [held[0], []]])
         self.assertEqual([c.on_way(w) for w in (0, 1)], there)
+        self.assert_same([c.move(("fall", 0)), c.move(("fall", 0)), [worker.held() for worker in c.workers]], [True, True, [[], []]])
 
     def test_what_is_returned_may_be_changed(self):
         c = cluster(1)

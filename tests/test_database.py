@@ -501,6 +501,31 @@ class TouchTest(Case):
             self.assert_same(d.latest(), 5)
 
 
+    def test_one_of_several_changes(self):
+        def two(d, s):
+            return d.put(s, "l", {}), d.create(s, "new", LINE), d.put(s, "k", {})
+
+        self.assertTrue(self.is_refused(lambda d, s: d.names(s), two))
+        self.assertTrue(self.is_refused(lambda d, s: d.shape(s, "k"), two))
+        self.assertTrue(self.is_refused(lambda d, s: d.shape(s, "l"), two))
+        self.assertTrue(self.is_refused(lambda d, s: (d.shape(s, "m"), d.shape(s, "k")), two))
+        self.assertFalse(self.is_refused(lambda d, s: d.shape(s, "m"), two))
+
+    def test_tidying_beside_sessions_that_began_later(self):
+        for late_ones in range(3):
+            d = self.database(True)
+            s = d.begin()
+            d.shape(s, "m"), d.create(s, "mine", LINE)
+            other = d.begin()
+            d.put(other, "m", {}), d.commit(other)
+            for _ in range(late_ones):
+                d.begin()
+                other = d.begin()
+                d.put(other, "k", {}), d.commit(other)
+            d.tidy()
+            self.assertIsNone(d.commit(s))
+
+
 class OpeningTest(Case):
     def test_opening_again(self):
         disk = Disk()

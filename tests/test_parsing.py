@@ -211,6 +211,12 @@ class QueryTest(Case):
         self.assert_step("sorted a + b down, -@x up, not c down as 'as' limit -3", "sorted",
                          ((("add", A, B), "down"), (("neg", X), "up"), (("not", C), "down")), "as", -3)
 
+    def test_keys_begin_as_expressions_do(self):
+        for text in ("a", "'up'", "@x", "3", "-3", "- a", "\"b\"", "true", "false", "missing int", "(a)", "abs(a)", "length(a)",
+                     "is missing(a)", "if(a, b, c)", "orelse(a, b)", "not a"):
+            self.assert_step(f"sorted {text} up as i limit 3", "sorted", ((parse_expression(text), "up"),), "i", 3)
+            self.assert_step(f"sorted a down, {text} up as i limit 3", "sorted", ((A, "down"), (parse_expression(text), "up")), "i", 3)
+
     def test_steps_with_aggregates(self):
         count, total = ("n", "count", None), ("s", "sum", ("add", A, B))
         told = "n = count(), s = sum(a + b)"

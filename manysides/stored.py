@@ -59,15 +59,17 @@ def stored_array(array):
 
 def array_names(store, version):
     """Returns the ascending list of the names of the arrays that stand in a version."""
-    names = [name[len(CELLS_PREFIX):] for name in store.arrays(version) if name.startswith(CELLS_PREFIX)]
-    return [name for name in names if is_simple_name(name) and stands_in(store, version, name)]
+    told = {name: True for name in store.arrays(version)}
+    names = [name[len(CELLS_PREFIX):] for name in told if name.startswith(CELLS_PREFIX)]
+    return [name for name in names
+            if is_simple_name(name) and marks_name(name) in told and are_alike(store, version, name)]
 
 
-def stands_in(store, version, name):
-    """Returns True if an array whose cells stand in a version stands there wholly, otherwise False."""
+def are_alike(store, version, name):
+    """Returns True if the cells and the marks of an array have the same shape and the same chunks, otherwise False."""
     cells = cells_name(name)
     marks = marks_name(name)
-    if marks not in store.arrays(version) or store.shape(version, cells) != store.shape(version, marks):
+    if store.shape(version, cells) != store.shape(version, marks):
         return False
     return store.chunks(version, cells) == store.chunks(version, marks)
 
@@ -88,10 +90,11 @@ def version_with(store, changes):
     version = store.latest()
     names = store.arrays(version) if version > 0 else []
     told = {name: (store.shape(version, name), octets_of_chunks(store, version, name)) for name in names}
+    standing = latest_names(store)
     for name, array in changes.items():
         if array is not None:
             told[cells_name(name)], told[marks_name(name)] = stored_array(array)
-        elif name in latest_names(store):
+        elif name in standing:
             del told[cells_name(name)], told[marks_name(name)]
     return told
 
